@@ -1,0 +1,1 @@
+"""Treetrim: rows of trees, and the fewest changes from one to another."""
