@@ -1,4 +1,4 @@
-"""The form of the package's code: the rules of LANGUAGE.md that a walk over it can see.
+"""The form of the package's code: some of the rules of LANGUAGE.md, not all that a walk over it could see.
 
 Point 1 too: what imports nothing but itself has no clock, chance or files.
 """
