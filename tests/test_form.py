@@ -29,6 +29,9 @@ append clear copy count endswith extend find get index insert isalnum isalpha is
 items join keys ljust lower lstrip partition pop remove replace reverse rfind rjust rpartition rsplit rstrip
 setdefault split splitlines startswith strip update upper values zfill bit_length
 """.split()
+# What L23 lets be walked on the spot alone, and the names that may walk it.
+WALKED = ["zip", "enumerate", "reversed", "range", "items", "keys", "values"]
+WALKERS = ["list", "tuple", "dict", "sorted", "sum", "any", "all", "enumerate", "zip"]
 WORDS = re.compile(
     r"\b(type|typing|typing_extensions|enum|Enum|IntEnum|StrEnum|Flag|IntFlag|Generic|Protocol|ABC|ABCMeta"
     r"|namedtuple|NamedTuple|TypedDict|TYPE_CHECKING|abstractmethod)\b|dataclass|overload|contextmanager"
@@ -41,6 +44,10 @@ def trees():
 
 def nodes(*kinds):
     return [(path.name, node) for path, tree in trees() for node in ast.walk(tree) if isinstance(node, kinds)]
+
+
+def called(node):
+    return node.func.attr if isinstance(node.func, ast.Attribute) else node.func.id
 
 
 def top_names(tree):
@@ -151,6 +158,26 @@ class Code(unittest.TestCase):
             self.assertIn(type(node.value), (int, str, bool, type(None)), (name, node.lineno))
             if isinstance(node.value, str):
                 self.assertNotIn("%", node.value, (name, node.lineno))
+
+    def test_what_is_walked_is_walked_on_the_spot(self):
+        for path, tree in trees():
+            inside = list(ast.walk(tree))
+            walks = [node.iter for node in inside if isinstance(node, (ast.For, ast.comprehension))]
+            calls = [node for node in inside if isinstance(node, ast.Call)]
+            for node in calls:
+                if called(node) in WALKERS or called(node) in ("min", "max") and len(node.args) == 1:
+                    walks += node.args[:1]
+            for node in calls:
+                if called(node) in WALKED:
+                    self.assertIn(node, walks, (path.name, node.lineno))
+
+    def test_a_name_is_bound_once_at_the_top_of_a_file(self):
+        for path, tree in trees():
+            self.assertEqual(len(top_names(tree)), len(set(top_names(tree))), path.name)
+
+    def test_no_set(self):
+        for name, node in nodes(ast.Name):
+            self.assertNotIn(node.id, ("set", "frozenset"), (name, node.lineno))
 
     def test_is_stands_beside_none_true_and_false_alone(self):
         for name, node in nodes(ast.Compare):

@@ -3,8 +3,12 @@
 import copy
 import unittest
 
-from helper import EXAMPLE, HUGE, deep
+from helper import EXAMPLE, HUGE, broad, deep, planted
+from treetrim.changing import changes
+from treetrim.costs import cost
 from treetrim.errors import NoStep
+from treetrim.matching import matched
+from treetrim.notes import read, shown
 from treetrim.rows import leads, paths
 from treetrim.steps import behind, done, turned
 
@@ -13,6 +17,8 @@ BAD = [
     ("mark", [], "e"), ("mark", [5], "e"), ("cut", []), ("cut", [0, -1]), ("put", [], 0, "e"),
     ("put", [7, 0], 0, "e"), ("put", [-1], 0, "e"), ("put", [0], -1, "e"), ("put", [0, 1], HUGE, "e"),
 ]
+# Handed in two by two; one is there twice, so that equal rows meet too.
+ROWS = [[], EXAMPLE, planted("a(b c) d"), planted("b e(c d)"), planted("x(a y(b c) d)"), deep(9), broad(9)]
 
 
 class Untouched(unittest.TestCase):
@@ -54,6 +60,17 @@ class Untouched(unittest.TestCase):
                 steps = copy.deepcopy([("mark", [0], "f"), step, ("mark", [0], "g")])
                 self.assertEqual(self.call(function, list(EXAMPLE), steps), NoStep)
 
+    def test_two_rows(self):
+        for function in (cost, matched, changes):
+            for row in copy.deepcopy(ROWS):
+                for other in copy.deepcopy(ROWS):
+                    self.call(function, row, other)
+                self.call(function, row, row)
+
+    def test_a_row_that_is_shown(self):
+        for row in (*copy.deepcopy(ROWS), deep(110), broad(110)):
+            self.call(shown, row)
+
 
 class NothingShared(unittest.TestCase):
     """A later change of an answer must not reach what was handed in."""
@@ -84,12 +101,33 @@ class NothingShared(unittest.TestCase):
             path.append(9)
         self.assertEqual(paths(EXAMPLE), [[0], [0, 0], [0, 1], [1]])
 
+    def test_lists_of_a_matching(self):
+        self.check_apart([path for pair in matched(EXAMPLE, EXAMPLE) for path in pair])
+
+    def test_lists_of_changes(self):
+        self.check_apart([step[1] for step in changes(EXAMPLE, planted("x(b e(c(d)))"))])
+
+    def check_apart(self, lists):
+        ahead = copy.deepcopy(lists)
+        for place, found in enumerate(lists):
+            found.append(9)
+            self.assertEqual(lists[place + 1:], ahead[place + 1:])
+
+    def test_a_row_that_is_read(self):
+        for line in ("", "a(b c) d"):
+            row = read(line)
+            read(line).append(("x",))
+            self.assertEqual(read(line), row)
+
 
 class TheSameAgain(unittest.TestCase):
     def test_the_same_is_answered_again(self):
         for step in GOOD:
             self.assertEqual(done(EXAMPLE, step), done(EXAMPLE, step))
             self.assertEqual(turned(EXAMPLE, [step]), turned(EXAMPLE, [step]))
+        for function in (cost, matched, changes):
+            for row in ROWS:
+                self.assertEqual(function(EXAMPLE, row), function(list(EXAMPLE), list(row)))
 
 
 if __name__ == "__main__":

@@ -27,6 +27,10 @@ def trees_at(row, path):
     return levels(row, path)[-1]
 
 
+def mark_at(row, path):
+    return mark_of(trees_at(row, path[:-1])[path[-1]])
+
+
 def with_trees_at(row, path, trees):
     beside = levels(row, path)
     changed = list(trees)
