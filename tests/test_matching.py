@@ -75,7 +75,8 @@ class Chosen(Checked):
     def test_equal_marks_at_many_knots(self):
         lines = [
             "a", "a a", "a(a)", "a(a a)", "a(a) a", "a a(a)", "a(a(a))", "a(a a a) a(a a a a)",
-            "a(a(a) a(a)) a(a(a) a)", "a(a(a(a a a) a) a) a", "a a a a(a(a(a(a(a)))))", "a(a a(a a(a a(a a))))", "b(a a a) a(b b b b)",
+            "a(a(a) a(a)) a(a(a) a)", "a(a(a(a a a) a) a) a",
+            "a a a a(a(a(a(a(a)))))", "a(a a(a a(a a(a a))))", "b(a a a) a(b b b b)",
         ]
         for line in lines:
             for other in lines:
